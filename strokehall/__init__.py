@@ -1,0 +1,1 @@
+"""Strokehall: a chord keyboard that's read (chordhall, keys)."""
