@@ -5,6 +5,11 @@ from strokehall.letters import BAR_SIGN, is_digit, is_label, utf8
 MOST_KEYS = 48
 
 
+def is_chord(number, size):
+    """Whether a number is a chord of some of so many keys."""
+    return 1 <= number < 1 << size
+
+
 def all_differ(row):
     """Whether nothing stands twice in a row."""
     return len(set(row)) == len(row)
@@ -56,7 +61,7 @@ class Board:
 
     def owns(self, chord):
         """Whether a chord is of this keyboard."""
-        return 1 <= chord < 1 << self.size
+        return is_chord(chord, self.size)
 
     def keys_of(self, chord):
         """The numbers of a chord's keys, in order."""

@@ -1,8 +1,11 @@
 """The object that calls are made on: a keyboard that's read."""
 
 from strokehall.board import Board, is_keyboard
+from strokehall.events import in_order
+from strokehall.frames import NumberedLine
 from strokehall.news import News
 from strokehall.outlines import is_outline, outline_text, read_outline
+from strokehall.packets import PlainLine
 from strokehall.rows import counted
 
 TICKS_END = 1099511627776
@@ -11,18 +14,17 @@ MOST_TEXT = 4096
 LAST_WAY = 2
 MOST_BOUNCE = 1000
 MOST_GAP = 10000
+PLAIN = 0
+NUMBERED = 1
 
 
 def events_fit(events, earliest, latest, size):
     """Whether events are in order between two ticks, of keys that there are."""
-    if len(events) % 2 == 1 or len(events) // 2 > MOST_EVENTS:
+    if len(events) // 2 > MOST_EVENTS or not in_order(events, earliest):
         return False
-    last = earliest
     for place in range(0, len(events), 2):
-        tick = events[place]
-        if tick < last or tick > latest or events[place + 1] // 2 >= size:
+        if events[place] > latest or events[place + 1] // 2 >= size:
             return False
-        last = tick
     return True
 
 
@@ -33,6 +35,7 @@ class Hall:
         self.board = None
         self.news = None
         self.now = 0
+        self.wire = None
 
     def begin(self, left, middle, bar, labels, digits):
         """A keyboard, and all anew."""
@@ -41,6 +44,7 @@ class Hall:
         self.board = Board(left, middle, bar, labels, digits)
         self.news = News(0, 0, 1)
         self.now = 0
+        self.wire = PlainLine(self.board)
         return [0]
 
     def policy(self, way, bounce, gap):
@@ -78,3 +82,21 @@ class Hall:
         if chords is None:
             return [-2, fault]
         return [0] + counted(chords)
+
+    def line(self, which):
+        """A line is begun anew."""
+        if which == PLAIN:
+            self.wire = PlainLine(self.board)
+        elif which == NUMBERED:
+            self.wire = NumberedLine(self.board)
+        else:
+            return [-1]
+        return [0]
+
+    def take(self, some):
+        """What is received by bytes, of the line that was begun last."""
+        # Never too many bytes: the list of all calls is shorter than that.
+        told = []
+        for byte in some:
+            told.extend(self.wire.receive(byte))
+        return [0] + counted(told)

@@ -2,8 +2,8 @@
 
 import unittest
 
-from asking import (BEGUN, EXAMPLE, NOT_BEGUN, PLAIN, REFUSED, ask, begin, fault, feed, feed_numbers, held,
-                    outline, policy, read, text, told, write)
+from asking import (BEGUN, EXAMPLE, NOT_BEGUN, PLAIN, REFUSED, ask, begin, counted, fault, feed, feed_numbers, frame,
+                    frame_bytes, held, line, merge, outline, policy, read, send, take, text, told, write)
 from strokehall.keyboard import answers
 
 CALLS = [
@@ -17,6 +17,18 @@ CALLS = [
     5, 2, 83, 45,
     4, 0,
     5, 0,
+    6, 4, 3, 1, 5, 0, 2, 4, 9,
+    6, 0, 0,
+    6, 1, 3, 0,
+    7, 10,
+    7, 0,
+    8, 2, 3, 16,
+    8, 256, 0, 1,
+    10, 10, 5, 130, 128, 0, 0, 0, 0, 0, 10, 9,
+    9, 1,
+    10, 12, 2, 0, 0, 10, 0, 0, 0, 0, 0, 183, 60, 3,
+    10, 0,
+    9, 2,
 ]
 ANSWERS = [
     1, 0,
@@ -29,6 +41,18 @@ ANSWERS = [
     2, -2, 2,
     1, -1,
     2, -2, 0,
+    8, 0, 6, 3, 1, 4, 9, 5, 0,
+    2, 0, 0,
+    1, -1,
+    9, 0, 7, 128, 0, 0, 0, 0, 0, 10,
+    1, -1,
+    17, 0, 15, 2, 16, 34, 16, 35, 16, 48, 0, 0, 0, 0, 0, 124, 158, 3,
+    1, -1,
+    18, 0, 16, 1, 0, 0, 0, 2, 1, 0, 0, 0, 10, 0, 0, 1, 9, 0, 0,
+    1, 0,
+    6, 0, 4, 0, 10, 0, 0,
+    2, 0, 0,
+    1, -1,
 ]
 
 
@@ -62,7 +86,8 @@ class Interface(unittest.TestCase):
         self.assertEqual({type(number) for number in given}, {int})
 
     def test_whole_numbers_where_calls_are_refused(self):
-        given = answers([number for call in (held(), EXAMPLE, feed(2**40), read("x")) for number in call])
+        calls = held(), EXAMPLE, feed(2**40), read("x"), merge([1], []), send(0), frame(256, 0, 0), line(2)
+        given = answers([number for call in calls for number in call])
         self.assertEqual({type(number) for number in given}, {int})
 
     def test_300_calls(self):
@@ -78,15 +103,25 @@ class Interface(unittest.TestCase):
 
 class BeforeBegin(unittest.TestCase):
     def test_nothing_is_begun(self):
-        calls = [policy(0, 0), feed(0), held(), write(1), read("S")]
-        self.assertEqual(ask(*calls), [NOT_BEGUN] * 5)
+        calls = [policy(0, 0), feed(0), held(), write(1), read("S"), line(0), take([1])]
+        self.assertEqual(ask(*calls), [NOT_BEGUN] * 7)
         for call in calls:
             self.assertEqual(ask(call), [NOT_BEGUN])
 
+    def test_what_needs_no_keyboard(self):
+        calls = [merge([1, 5], [0, 7]), send(2**48 - 1), frame(0, 0, 10), merge([1], []), send(0), frame(0, 2**28, 1)]
+        wanted = [counted([0, 7, 1, 5]), counted([191] + [127] * 6), counted(frame_bytes(0, 0, 10)),
+                  REFUSED, REFUSED, REFUSED]
+        self.assertEqual(ask(*calls), wanted)
+        for call, one in zip(calls, wanted):
+            self.assertEqual(ask(call), [one])
+            self.assertEqual(ask(begin(0, 0, 0, ""), call, held(), EXAMPLE, call),
+                             [REFUSED, one, NOT_BEGUN, BEGUN, one])
+
     def test_ahead_of_every_other_refusal(self):
         self.assertEqual(
-            ask(policy(9, 9999, 0), feed(2**53 - 1), feed_numbers(0, [5]), write(), read([0] * 5000), read("")),
-            [NOT_BEGUN] * 6)
+            ask(policy(9, 9999, 0), feed(2**53 - 1), feed_numbers(0, [5]), write(), read([0] * 5000), read(""), line(2)),
+            [NOT_BEGUN] * 7)
 
     def test_a_refused_begin_begins_nothing(self):
         self.assertEqual(ask(begin(0, 0, 0, ""), held(), EXAMPLE, held()), [REFUSED, NOT_BEGUN, BEGUN, [0, 0]])

@@ -5,8 +5,8 @@ section 3, taken over all the news at once.
 import random
 import unittest
 
-from asking import (ALL_UP, BY_TIME, EXAMPLE, FIRST_UP, MIXED, REFUSED, TOO_MANY_WAIT,
-                    ask, begin, feed, feed_numbers, held, policy, read, write)
+from asking import (ALL_UP, BY_TIME, EXAMPLE, FIRST_UP, MIXED, REFUSED, TOO_MANY_WAIT, ask, begin, feed, feed_numbers,
+                    frame, frame_bytes, held, line, merge, packet_bytes, policy, read, send, take, write)
 
 RULES = [(way, bounce, gap) for way in (ALL_UP, FIRST_UP, BY_TIME) for bounce in (0, 1, 4, 30) for gap in (1, 6, 40)]
 
@@ -217,13 +217,16 @@ class RefusalsChangeNothing(unittest.TestCase):
         feed(2**39, (2**39, 0, 1), (2**39 - 1, 1, 1)), feed(2**39, (2**39, 0, 1), (2**39 + 1, 1, 1)),
         feed_numbers(2**39, [2**39, 1] * 4097),
         write(), write(*[1] * 11), write(1, 0), write(2**53 - 1), read([107] * 4097),
-        read(""), read("kk/"), read("\u00e9k"), read([255]),
+        merge([1], []), merge([], [1, 2, 3]), merge([2, 1, 1, 1], []), merge([], [5, 1, 9, 1, 8, 1]),
+        send(0), send(2**48), frame(256, 0, 1), frame(0, 2**28, 1), frame(0, 0, 0), frame(0, 0, 2**48),
+        line(2), line(2**53 - 1),
     ]
+    FAULTY = [read(""), read("kk/"), read("\u00e9k"), read([255])]
 
     def test_each_is_refused(self):
-        answers = ask(MIXED, *self.WRONG[:-4])[1:]
-        self.assertEqual(answers, [REFUSED] * (len(self.WRONG) - 4))
-        self.assertEqual([answer[0] for answer in ask(MIXED, *self.WRONG[-4:])[1:]], [-2] * 4)
+        given = [answer for place in (0, 20) for answer in ask(MIXED, *self.WRONG[place:place + 20])[1:]]
+        self.assertEqual(given, [REFUSED] * len(self.WRONG))
+        self.assertEqual([answer[0] for answer in ask(MIXED, *self.FAULTY)[1:]], [-2] * 4)
 
     def test_promise_8(self):
         source = random.Random(81)
@@ -234,7 +237,7 @@ class RefusalsChangeNothing(unittest.TestCase):
             for place, call in enumerate(calls):
                 with_refusals.append(call)
                 wanted.append(True)
-                for wrong in source.sample(self.WRONG, source.randint(0, 2)):
+                for wrong in source.sample(self.WRONG + self.FAULTY, source.randint(0, 2)):
                     if sum(map(len, with_refusals)) + len(wrong) < 17000:
                         with_refusals.append(wrong)
                         wanted.append(False)
@@ -258,9 +261,15 @@ class RefusalsChangeNothing(unittest.TestCase):
         calls = [MIXED, policy(source.randint(0, 2), source.choice((0, 3, 20)), source.choice((1, 9)))]
         for now, piece in cut(source, news, news[-1][0] + 50):
             calls.append(feed(now, *piece))
-            calls += source.sample([[], held(), write(5, 9), read("k2/-k")], 1)
+            calls += source.sample([[], held(), write(5, 9), read("k2/-k"), merge([1, 3], [1, 5]), send(9)], 1)
             if source.randint(0, 9) == 0:
                 calls.append(policy(source.randint(0, 2), 3, 9))
+            if source.randint(0, 9) == 0:
+                calls.append(line(source.randint(0, 1)))
+            # Pieces of packets and frames, so that refusals come in the midst of them.
+            some = packet_bytes(source.randrange(1, 300)) + frame_bytes(source.randrange(256), 2, 3)
+            place = source.randrange(len(some))
+            calls.append(take(some[place:] + some[:place]))
         return [call for call in calls if call]
 
 
